@@ -1,0 +1,1 @@
+"""A fire season: a forest, its days, and what they burn."""
