@@ -4,13 +4,20 @@ answers(calls) is the way in: it takes one list of calls on a new forest and
 gives back, for each call in order, how many numbers it answers and these.
 """
 
+from fireseasons.breaks import MayNotBeCut, best_rows, follow_breaks
+from fireseasons.fire import Course, evening_ahead_of_all
+
 BEGINS = 0
 DAY = 1
 DROP = 2
+FOLLOW = 3
+BEST = 4
+EVENING = 5
 
 NOT_AS_TOLD = -1
 NO_DAYS = -4
 ENOUGH_DAYS = -5
+NOT_CUT_THERE = -6
 
 MOST_IN_A_ROW = 4
 MOST_ROWS = 4
@@ -68,6 +75,14 @@ class Day:
         return all_between(self.where, 0, count - 1) and is_rising(self.where)
 
 
+def behind_lengths(lists):
+    told = []
+    for one in lists:
+        told.append(len(one))
+        told.extend(one)
+    return told
+
+
 # Its calls judge first and change afterwards, so that a refusal leaves all as it was.
 class Season:
     def __init__(self):
@@ -100,6 +115,39 @@ class Season:
             return NO_DAYS
         self.days.pop()
         return len(self.days)
+
+    def are_breaks(self, breaks):
+        # A break is told as 1 more than its place, so the count of places is the highest there is.
+        return len(breaks) == len(self.days) and all_between(breaks, 0, len(self.slowness))
+
+    def ahead(self):
+        return evening_ahead_of_all(self.slowness)
+
+    def courses(self):
+        return [Course(self.wide, self.slowness, self.worth, day) for day in self.days]
+
+    def follow(self, breaks):
+        if not self.are_breaks(breaks):
+            return [NOT_AS_TOLD]
+        try:
+            evenings = follow_breaks(self.courses(), self.ahead(), breaks)
+        except MayNotBeCut:
+            return [NOT_CUT_THERE]
+        return [evenings[-1].lost] + behind_lengths([evening.fire for evening in evenings[1:]])
+
+    def best(self):
+        rows = best_rows(self.courses(), self.ahead())
+        return [rows[0].last.lost] + behind_lengths([[len(rows)], rows[0].breaks])
+
+    # Breaks on the mornings behind day k are judged too: the row as a whole must be one that may be cut.
+    def evening(self, k, breaks):
+        if not self.are_breaks(breaks) or k > len(self.days):
+            return [NOT_AS_TOLD]
+        try:
+            evenings = follow_breaks(self.courses(), self.ahead(), breaks)
+        except MayNotBeCut:
+            return [NOT_CUT_THERE]
+        return [evenings[k].lost] + behind_lengths([evenings[k].fire, evenings[k].could_burn()])
 
 
 # Hands on copies alone, so that nothing kept of a call is a part of the list handed in.
@@ -137,6 +185,12 @@ def answer_day(season, reader):
     return [season.day(wind, minutes, where)]
 
 
+def answer_evening(season, reader):
+    k = reader.number()
+    breaks = reader.row()
+    return season.evening(k, breaks)
+
+
 def answer_call(season, reader):
     call = reader.number()
     if call == BEGINS:
@@ -145,6 +199,12 @@ def answer_call(season, reader):
         return answer_day(season, reader)
     if call == DROP:
         return [season.drop()]
+    if call == FOLLOW:
+        return season.follow(reader.row())
+    if call == BEST:
+        return season.best()
+    if call == EVENING:
+        return answer_evening(season, reader)
     raise UnknownCall(f"no call has the number {call}")
 
 

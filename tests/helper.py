@@ -26,22 +26,45 @@ def drop():
     return [2]
 
 
+def follow(breaks=()):
+    """The call follow."""
+    return [3, len(breaks)] + list(breaks)
+
+
+def best():
+    """The call best."""
+    return [4]
+
+
+def evening(k, breaks=()):
+    """The call evening."""
+    return [5, k, len(breaks)] + list(breaks)
+
+
 def line(*calls):
     """Calls one behind another, as one list."""
     return [number for call in calls for number in call]
 
 
-def ask(*calls):
-    """Each call's answer as a list; each must stand behind its length."""
-    given = answers(line(*calls))
+def cut_up(given):
+    """Lists that stand one behind another, each behind its length."""
     taken = []
     at = 0
     while at < len(given):
         end = at + 1 + given[at]
-        if given[at] < 1 or end > len(given):
-            raise AssertionError(f"an answer at {at} has a wrong length: {given}")
+        if given[at] < 0 or end > len(given):
+            raise AssertionError(f"a wrong length at {at}: {given}")
         taken.append(given[at + 1:end])
         at = end
+    return taken
+
+
+def ask(*calls):
+    """Each call's answer as a list; each must stand behind its length, and have a number at least."""
+    given = answers(line(*calls))
+    taken = cut_up(given)
+    if [] in taken:
+        raise AssertionError(f"an answer is empty: {given}")
     if len(taken) != len(calls):
         raise AssertionError(f"{len(calls)} calls, {len(taken)} answers: {given}")
     return taken
@@ -54,3 +77,13 @@ def numbers(*calls):
         if len(single) != 1:
             raise AssertionError(f"not one number alone: {single}")
     return [single[0] for single in singles]
+
+
+def apart(answer):
+    """An answer's number, then each list that stands behind its length."""
+    return answer[:1] + cut_up(answer[1:])
+
+
+def last(*calls):
+    """The last call's answer, its lists taken apart."""
+    return apart(ask(*calls)[-1])

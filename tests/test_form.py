@@ -20,7 +20,7 @@ UNUSED_WORDS = re.compile(
 )
 
 UNUSED_FORMS = (
-    ast.Import, ast.ImportFrom, ast.With, ast.Match, ast.Delete, ast.Global, ast.Nonlocal, ast.Assert, ast.Yield,
+    ast.Import, ast.With, ast.Match, ast.Delete, ast.Global, ast.Nonlocal, ast.Assert, ast.Yield,
     ast.YieldFrom, ast.AsyncFunctionDef, ast.AsyncFor, ast.AsyncWith, ast.Await, ast.SetComp, ast.DictComp,
     ast.GeneratorExp, ast.NamedExpr, ast.Starred, ast.Div, ast.AnnAssign, ast.Set,
 )
@@ -36,6 +36,28 @@ def sources():
 def nodes(kind):
     """Each node of this kind in the package, with its file's name."""
     return [(name, node) for name, text in sources() for node in ast.walk(ast.parse(text)) if isinstance(node, kind)]
+
+
+def defined(module):
+    """The names that a module of the package gives at its top."""
+    names = set()
+    for node in ast.parse((PACKAGE / (module.split(".")[1] + ".py")).read_text(encoding="utf-8")).body:
+        if isinstance(node, (ast.FunctionDef, ast.ClassDef)):
+            names.add(node.name)
+        if isinstance(node, ast.Assign):
+            names.update(target.id for target in node.targets)
+    return names
+
+
+def in_a_ring(drawn):
+    """The files that draw on others for ever; none where those that draw on nothing can be taken off in turn."""
+    left = dict(drawn)
+    while True:
+        free = [name for name in left if not any(other in left for other in left[name])]
+        if not free:
+            return sorted(left)
+        for name in free:
+            del left[name]
 
 
 class Form(unittest.TestCase):
@@ -65,6 +87,26 @@ class Form(unittest.TestCase):
     def test_forms_that_are_not_used(self):
         for form in UNUSED_FORMS:
             self.assertEqual([(name, node.lineno) for name, node in nodes(form)], [], form.__name__)
+
+    def test_imports_draw_on_the_package_alone_at_the_top(self):
+        drawn = {}
+        for name, text in sources():
+            tree = ast.parse(text)
+            rows = [node for node in ast.walk(tree) if isinstance(node, ast.ImportFrom)]
+            self.assertEqual([row.lineno for row in rows if row not in tree.body], [], name)
+            for row in rows:
+                where = f"{name}:{row.lineno}"
+                self.assertEqual(row.level, 0, where)
+                self.assertRegex(row.module, r"\Afireseasons\.[a-z0-9_]+\Z", where)
+                self.assertEqual([one.name for one in row.names if one.name not in defined(row.module)], [], where)
+            drawn[name] = [row.module.split(".")[1] + ".py" for row in rows]
+        self.assertEqual(in_a_ring(drawn), [])
+
+    def test_no_name_is_a_method_here_and_a_value_there(self):
+        classes = [node for name, node in nodes(ast.ClassDef)]
+        methods = {one.name for node in classes for one in node.body if isinstance(one, ast.FunctionDef)}
+        values = {node.attr for name, node in nodes(ast.Attribute) if isinstance(node.ctx, ast.Store)}
+        self.assertEqual(methods & values, set())
 
     def test_no_other_name_of_pythons_own(self):
         for name, node in nodes(ast.Name):
